@@ -77,9 +77,14 @@ func (p plan) walk(s impl.State, word string) []impl.State {
 
 // moves returns the directions in which there is floor.
 func (p plan) moves(s impl.State) string {
+	return movesOf(s, p.walk)
+}
+
+// movesOf returns the directions in which a walk of one roll is not stopped.
+func movesOf(s impl.State, walk func(impl.State, string) []impl.State) string {
 	moves := ""
 	for _, dir := range []string{"n", "e", "s", "w"} {
-		if len(p.walk(s, dir)) == 2 {
+		if len(walk(s, dir)) == 2 {
 			moves += dir
 		}
 	}

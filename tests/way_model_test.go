@@ -24,13 +24,17 @@ type web struct {
 }
 
 func webOf(b string, s impl.State) web {
-	cells := planOf(b)
+	return spread(b, s, planOf(b).walk)
+}
+
+// spread returns the web of all states to which walks of one roll come, from one to the next.
+func spread(b string, s impl.State, walk func(impl.State, string) []impl.State) web {
 	w := web{board: b, start: s, states: []impl.State{s}}
 	index := map[impl.State]int{s: 0}
 	for i := 0; i < len(w.states); i++ {
 		next := [4]int{-1, -1, -1, -1}
 		for k := range order {
-			way := cells.walk(w.states[i], order[k:k+1])
+			way := walk(w.states[i], order[k:k+1])
 			if len(way) < 2 {
 				continue
 			}
