@@ -217,7 +217,7 @@ func DieText(d Die) (string, bool) {
 	}
 	var text [6]byte
 	for place, number := range facesOf(d) {
-		text[place] = '0' + byte(number)
+		text[place] = digitOf(number)
 	}
 	return string(text[:]), true
 }
@@ -246,6 +246,25 @@ func facesOf(d Die) [6]int {
 // dieOf returns the die with numbers in the order of the type.
 func dieOf(faces [6]int) Die {
 	return Die{Top: faces[0], North: faces[1], East: faces[2], South: faces[3], West: faces[4], Bottom: faces[5]}
+}
+
+// digitOf returns the digit of a face, or of its label on a board.
+func digitOf(number int) byte {
+	return '0' + byte(number)
+}
+
+func isDigit(sign byte) bool {
+	return sign >= '0' && sign <= '9'
+}
+
+func countDigits(s string) int {
+	count := 0
+	for i := range len(s) {
+		if isDigit(s[i]) {
+			count++
+		}
+	}
+	return count
 }
 
 // compareDice orders dice by their numbers in the order of the type.
