@@ -21,6 +21,9 @@ type Die struct {
 // directions has the directions in the order in which words are compared.
 const directions = "nesw"
 
+// maxWays is how many ways to lie a die has at most.
+const maxWays = 24
+
 // oppositePlaces tells, for each place in the order of the type Die, the place opposite to it.
 var oppositePlaces = [6]int{5, 3, 4, 1, 2, 0}
 
@@ -55,15 +58,7 @@ func TurnDie(d Die, k int) (Die, bool) {
 
 // IsRolls reports whether a text is a word.
 func IsRolls(word string) bool {
-	if len(word) > MaxRolls {
-		return false
-	}
-	for i := range len(word) {
-		if strings.IndexByte(directions, word[i]) < 0 {
-			return false
-		}
-	}
-	return true
+	return len(word) <= MaxRolls && hasOnly(word, directions)
 }
 
 // RollWord returns the die rolled in all directions of a word, one after the other.
@@ -253,6 +248,16 @@ func digitOf(number int) byte {
 	return '0' + byte(number)
 }
 
+// hasOnly reports whether all signs of a text are some of those told.
+func hasOnly(text string, signs string) bool {
+	for i := range len(text) {
+		if strings.IndexByte(signs, text[i]) < 0 {
+			return false
+		}
+	}
+	return true
+}
+
 func isDigit(sign byte) bool {
 	return sign >= '0' && sign <= '9'
 }
@@ -317,20 +322,33 @@ func rolledAlong(d Die, word string) Die {
 }
 
 // firstWords returns all dice that rolls make of d, each with the first one of the shortest words that make it.
-// The queue holds the dice in the order of their words, shorter ones first, so the word that finds a die is its first one.
 func firstWords(d Die) map[Die]string {
-	words := map[Die]string{d: ""}
-	queue := []Die{d}
-	for next := 0; next < len(queue); next++ {
-		from := queue[next]
-		for i := range len(directions) {
-			to := rolled(from, directions[i])
-			if _, found := words[to]; found {
-				continue
+	words, _ := searchedWords(d, rolled, IsDie, maxWays)
+	return words
+}
+
+// searchedWords returns all nodes that rolls make of a first one, through nodes that fit alone, each with the first one of the shortest words that make it. It fails if they are more than most.
+// Nodes found come over the channel in the order of their words, shorter ones first, so the word that finds a node is its first one. There is room for each node once, so that no send has to wait.
+func searchedWords[Node comparable](first Node, roll func(Node, byte) Node, fits func(Node) bool, most int) (map[Node]string, bool) {
+	words := map[Node]string{first: ""}
+	found := make(chan Node, most)
+	found <- first
+	for {
+		select {
+		case from := <-found:
+			for i := range len(directions) {
+				to := roll(from, directions[i])
+				if _, known := words[to]; known || !fits(to) {
+					continue
+				}
+				if len(words) == most {
+					return nil, false
+				}
+				words[to] = words[from] + directions[i:i+1]
+				found <- to
 			}
-			words[to] = words[from] + directions[i:i+1]
-			queue = append(queue, to)
+		default:
+			return words, true
 		}
 	}
-	return words
 }
