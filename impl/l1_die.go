@@ -323,28 +323,52 @@ func rolledAlong(d Die, word string) Die {
 
 // firstWords returns all dice that rolls make of d, each with the first one of the shortest words that make it.
 func firstWords(d Die) map[Die]string {
-	words, _ := searchedWords(d, rolled, IsDie, maxWays)
+	words, _ := searchedWords(d, allRolls(), rollBy(rolled, IsDie), maxWays)
 	return words
 }
 
-// searchedWords returns all nodes that rolls make of a first one, through nodes that fit alone, each with the first one of the shortest words that make it. It fails if they are more than most.
+// allRolls returns the moves of what rolls alone: the directions in their order.
+func allRolls() []string {
+	return strings.Split(directions, "")
+}
+
+// rollBy returns what rolls a node in a direction, and tells whether the node behind the roll fits.
+func rollBy[Node any](roll func(Node, byte) Node, fits func(Node) bool) func(Node, string) (Node, bool) {
+	return func(from Node, dir string) (Node, bool) {
+		to := roll(from, dir[0])
+		return to, fits(to)
+	}
+}
+
+// possibleMoves returns those of some moves that can be made, in their order.
+func possibleMoves[Node any](from Node, moves []string, moved func(Node, string) (Node, bool)) []string {
+	var possible []string
+	for _, move := range moves {
+		if _, can := moved(from, move); can {
+			possible = append(possible, move)
+		}
+	}
+	return possible
+}
+
+// searchedWords returns all nodes that moves make of a first one, each with the first one, in the order of the moves, of the shortest words of moves that make it. It fails if they are more than most.
 // Nodes found come over the channel in the order of their words, shorter ones first, so the word that finds a node is its first one. There is room for each node once, so that no send has to wait.
-func searchedWords[Node comparable](first Node, roll func(Node, byte) Node, fits func(Node) bool, most int) (map[Node]string, bool) {
+func searchedWords[Node comparable](first Node, moves []string, moved func(Node, string) (Node, bool), most int) (map[Node]string, bool) {
 	words := map[Node]string{first: ""}
 	found := make(chan Node, most)
 	found <- first
 	for {
 		select {
 		case from := <-found:
-			for i := range len(directions) {
-				to := roll(from, directions[i])
-				if _, known := words[to]; known || !fits(to) {
+			for _, move := range moves {
+				to, can := moved(from, move)
+				if _, known := words[to]; known || !can {
 					continue
 				}
 				if len(words) == most {
 					return nil, false
 				}
-				words[to] = words[from] + directions[i:i+1]
+				words[to] = words[from] + move
 				found <- to
 			}
 		default:
