@@ -147,7 +147,11 @@ func TestPromise11ManyArgumentsAreKept(t *testing.T) {
 				roomyCells[n] = withRoom(cells[n], 5)
 			}
 			keptBoard, keptMoves := strings.Clone(b), strings.Clone(moves)
-			tight := slices.Concat(outcomesOfDiceLists(t, b, dice), outcomesOfMoves(t, b, dice, moves), outcomesOfPlanGoals(t, b, dice, goal, cells))
+			given, givenGoal, givenCells := slices.Clone(dice), slices.Clone(goal), slices.Clone(cells)
+			for n := range givenCells {
+				givenCells[n] = slices.Clone(cells[n])
+			}
+			tight := slices.Concat(outcomesOfDiceLists(t, b, given), outcomesOfMoves(t, b, given, moves), outcomesOfPlanGoals(t, b, given, givenGoal, givenCells))
 			loose := slices.Concat(outcomesOfDiceLists(t, b, roomy), outcomesOfMoves(t, b, roomy, moves), outcomesOfPlanGoals(t, b, roomy, roomyGoal, roomyCells))
 			expectEqual(t, fmt.Sprint("outcomes with room behind lists ", b, dice), strings.Join(loose, "\n"), strings.Join(tight, "\n"))
 			outcomesOfPlan(t, moves)
