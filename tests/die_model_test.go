@@ -28,6 +28,9 @@ var sides = []vector{up, north, east, south, west, down}
 
 var still = matrix{{1, 0, 0}, {0, 1, 0}, {0, 0, 1}}
 
+// quarter turns by a quarter clockwise, seen from above.
+var quarter = matrix{{0, 1, 0}, {-1, 0, 0}, {0, 0, 1}}
+
 var rollMatrices = map[byte]matrix{
 	'n': {{1, 0, 0}, {0, 0, 1}, {0, -1, 0}},
 	's': {{1, 0, 0}, {0, 0, -1}, {0, 1, 0}},

@@ -75,7 +75,6 @@ func TestPromise1TurnDie(t *testing.T) {
 		expectEqual(t, fmt.Sprint("TurnDie 123456 ", k), got, die(text))
 		expectEqual(t, "TurnDie succeeds", ok, true)
 	}
-	quarter := matrix{{0, 1, 0}, {-1, 0, 0}, {0, 0, 1}}
 	for _, d := range sampleDice() {
 		turned := d
 		for k := range 4 {

@@ -561,7 +561,6 @@ func TestPromise2TurnState(t *testing.T) {
 	got, ok := impl.TurnState(".../.#.", state(2, 0, "123456"))
 	expectEqual(t, "TurnState 2 0", got, state(1, 2, "152346"))
 	expectEqual(t, "TurnState succeeds", ok, true)
-	quarter := matrix{{0, 1, 0}, {-1, 0, 0}, {0, 0, 1}}
 	for _, b := range sampleBoards() {
 		for _, s := range startsOn(b) {
 			got, ok := impl.TurnState(b, s)

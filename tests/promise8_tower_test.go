@@ -301,8 +301,6 @@ func TestPromise8TwoLoopsMakeTowers(t *testing.T) {
 	}
 }
 
-var quarter = matrix{{0, 1, 0}, {-1, 0, 0}, {0, 0, 1}}
-
 func TestPromise8TurnTower(t *testing.T) {
 	for _, p := range piles() {
 		turn := still
