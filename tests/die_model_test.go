@@ -4,6 +4,7 @@ import (
 	"math"
 	"slices"
 	"strings"
+	"sync"
 	"testing"
 
 	"loop.example/g01207/impl"
@@ -129,6 +130,17 @@ func allWords(n int) []string {
 	}
 	return words
 }
+
+// turnWords has the first word, in order, of the shortest ones that make each turn.
+var turnWords = sync.OnceValue(func() map[matrix]string {
+	first := map[matrix]string{}
+	for _, word := range allWords(5) {
+		if _, found := first[matrixOfWord(word)]; !found {
+			first[matrixOfWord(word)] = word
+		}
+	}
+	return first
+})
 
 // die returns the die with six digits, read without the program.
 func die(text string) impl.Die {

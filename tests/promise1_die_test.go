@@ -211,12 +211,7 @@ func TestPromise1ShortestRolls(t *testing.T) {
 		expectEqual(t, "ShortestRolls "+word, got, want)
 		expectEqual(t, "ShortestRolls succeeds", ok, true)
 	}
-	first := map[matrix]string{}
-	for _, word := range allWords(5) {
-		if _, found := first[matrixOfWord(word)]; !found {
-			first[matrixOfWord(word)] = word
-		}
-	}
+	first := turnWords()
 	expectEqual(t, "ways that words make", len(first), 24)
 	for _, word := range slices.Concat(allWords(5), longestWords()) {
 		got, ok := impl.ShortestRolls(word)
